@@ -1,0 +1,1 @@
+"""Sparecut: long ladders of claims made shorter."""

@@ -111,6 +111,11 @@ class Following(unittest.TestCase):
             told = follows(others, (say,))[1]
             self.assertEqual(told, tuple(thing != abs(say) or say < 0 for thing in range(1, 9)))
 
+    def test_each_setting_can_be_the_one_that_shows_it(self):
+        for setting in SETTINGS:
+            book = tuple((place + 1 if setting[place] else -place - 1,) for place in range(8))
+            self.assertEqual(follows(book, ()), ("not", setting))
+
     def test_all_eight_things(self):
         self.assertFalse(self.look_at((FULL,), (1, 3, 5, 7)))
         self.assertTrue(self.look_at((FULL,), FULL))

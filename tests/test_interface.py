@@ -1,0 +1,30 @@
+"""The interface: each name that has landed exists in its module, with the arguments told there."""
+
+import importlib
+import inspect
+import unittest
+
+FUNCTIONS = {
+    "claims": {"is_claim": "thing", "is_book": "thing", "is_wide": "one other"},
+    "settings": {"holds": "claim setting", "failing": "book setting", "follows": "book claim"},
+    "cuts": {"cut": "one other k"},
+    "ladders": {
+        "is_ladder": "book thing", "claims_of": "book ladder", "heights": "book ladder",
+        "how_many_cuts": "book ladder",
+    },
+    "standing": {"stands_on": "book ladder", "needed": "book ladder", "trimmed": "book ladder"},
+    "once": {"told_once": "book ladder"},
+}
+
+
+class Interface(unittest.TestCase):
+    def test_functions_and_their_arguments(self):
+        for module, functions in FUNCTIONS.items():
+            found = importlib.import_module(f"sparecut.{module}")
+            for name, arguments in functions.items():
+                told = inspect.signature(getattr(found, name)).parameters
+                self.assertEqual(list(told), arguments.split(), f"{module}.{name}")
+
+
+if __name__ == "__main__":
+    unittest.main()

@@ -4,6 +4,7 @@ Nothing here asks the program: what it tells is held against what is reckoned he
 """
 
 import copy
+import functools
 import itertools
 import random
 
@@ -256,3 +257,184 @@ def wrong_lists(book=BOOK):
     told.append((LADDER + [("cut", 0, 1, 1)] * 194, 200))
     told.append(([("book", 1), ("book", 4), ("cut", 1, 0, 1)], 2))
     return told
+
+
+def wide_plainly(one, other):
+    return set(one) <= set(other)
+
+
+def how_many_cuts_plainly(ladder):
+    return sum(1 for row in ladder if row[0] == "cut")
+
+
+def look_at_shorter(test, book, ladder, told):
+    """Point 3: a ladder of the same book, whose last claim is as wide, with no more rows and no more cuts."""
+    test.assertIs(type(told), list)
+    test.assertIsNone(fault_plainly(book, told), told)
+    test.assertTrue(wide_plainly(claims_plainly(book, told)[-1], claims_plainly(book, ladder)[-1]))
+    test.assertLessEqual(len(told), len(ladder))
+    test.assertLessEqual(how_many_cuts_plainly(told), how_many_cuts_plainly(ladder))
+
+
+def some_short_book(chance, number):
+    """A book of few things with short claims: much of its ladders is told as widely elsewhere."""
+    things = (2, 3, 4, 5, 8)[number % 5]
+    return some_book(chance, things, (2, 3)[number % 2], chance.randint(4, 16))
+
+
+@functools.cache
+def some_dense_ladders():
+    """A tuple of pairs of a book and a ladder by chance, of some dozens of rows up to two hundred, many of them needed.
+
+    Of some cuts by chance that with the shortest claim is taken, so that rows are made that tell much; the ladder
+    ends with the row that stands on most others.
+    """
+    told = []
+    for number, chance in enumerate(chances(120)):
+        book = tuple(some_wide_claim(chance, (5, 6, 7, 8)[number % 4], number % 3) for turn in range(16))
+        rows = [("book", at) for at in range(16)]
+        claims = list(book)
+        while len(rows) < (60, 100, 150, 200)[number // 4 % 4]:
+            cuts = [row for row in (some_cut(chance, claims) for turn in range(6)) if row is not None]
+            if not cuts:
+                break
+            new = [row for row in cuts if row_claim_plainly(book, claims, row) not in claims]
+            row = min(new or cuts, key=lambda row: len(row_claim_plainly(book, claims, row)))
+            rows.append(row if chance.random() < 0.8 else cuts[0])
+            claims.append(row_claim_plainly(book, claims, rows[-1]))
+        many = [len(under_plainly(rows, at)) for at in range(len(rows))]
+        told.append((book, rows[:many.index(max(many)) + 1]))
+    return tuple(told)
+
+
+def some_wide_claim(chance, things, single):
+    """A claim of two or three says by chance, seldom, where single isn't 0, one of one say."""
+    many = 1 if single and chance.random() < 0.2 else chance.choice((2, 3, 3))
+    return tuple(sorted(thing * chance.choice((1, -1)) for thing in chance.sample(range(1, things + 1), many)))
+
+
+def tree_claim_plainly(book, tree):
+    """The claim of what is made as a tree is, of any size, or None where it is none."""
+    if type(tree) is not tuple or not tree or type(tree[0]) is not str or type(tree[-1]) is not int:
+        return None
+    if tree[0] == "book" and len(tree) == 2 and tree[1] in range(len(book)):
+        return book[tree[1]]
+    if tree[0] != "cut" or len(tree) != 4:
+        return None
+    one, other = tree_claim_plainly(book, tree[1]), tree_claim_plainly(book, tree[2])
+    return None if one is None or other is None else cut_plainly(one, other, tree[3])
+
+
+def pieces_plainly(tree):
+    """A list of all pieces of a tree, in the order in which they are done."""
+    if tree[0] == "book":
+        return [tree]
+    return pieces_plainly(tree[1]) + pieces_plainly(tree[2]) + [tree]
+
+
+def within_plainly(tree):
+    """How many trees are within one another, it itself and the book's claims counted."""
+    return 1 if tree[0] == "book" else 1 + max(within_plainly(tree[1]), within_plainly(tree[2]))
+
+
+def is_regular_plainly(tree):
+    ways = [(tree, [])]
+    while ways:
+        part, things = ways.pop()
+        if len(things) != len(set(things)):
+            return False
+        if part[0] == "cut":
+            ways.extend([(part[1], things + [part[3]]), (part[2], things + [part[3]])])
+    return True
+
+
+# From each of the things 1 to 4 to each other one: where the one is so, the other is.
+ROUND = tuple(tuple(sorted((-one, other))) for one in range(1, 5) for other in range(1, 5) if one != other)
+
+
+def round_tree(cuts, one=1, other=2):
+    """A tree by ROUND with so many cuts, about as many in the one part as in the other."""
+    if cuts == 0:
+        return ("book", ROUND.index(tuple(sorted((-one, other)))))
+    between = [thing for thing in range(1, 5) if thing not in (one, other)][cuts % 2]
+    first = (cuts - 1) // 2
+    return ("cut", round_tree(first, one, between), round_tree(cuts - 1 - first, between, other), between)
+
+
+def deep_round_tree(cuts, within, one=1, other=2):
+    """A tree by ROUND with so many cuts and so many within one another, from 6 on."""
+    if within == 1:
+        return round_tree(0, one, other)
+    between = [thing for thing in range(1, 5) if thing not in (one, other)][within % 2]
+    spare = min(7, cuts - (within - 1))
+    first = deep_round_tree(cuts - 1 - spare, within - 1, one, between)
+    return ("cut", first, round_tree(spare, between, other), between)
+
+
+CHAIN_BOOK = ((-2, 1), (-1, 2), (1,))
+
+
+def chain_tree(within):
+    """A tree by CHAIN_BOOK with so many within one another, and no more cuts than that needs."""
+    tree = ("book", 2)
+    for turn in range(within - 1):
+        tree = ("cut", tree, ("book", 0), 2) if turn % 2 else ("cut", tree, ("book", 1), 1)
+    return tree
+
+
+def chain_ladder(many):
+    """A ladder by CHAIN_BOOK with so many rows, at least three; each cut stands on the one ahead of it."""
+    rows = [("book", 0), ("book", 1), ("book", 2)]
+    while len(rows) < many:
+        last = len(rows) - 1
+        rows.append(("cut", last, 1, 1) if len(rows) % 2 else ("cut", last, 0, 2))
+    return rows
+
+
+def doubling_ladder(many):
+    """A ladder by ROUND with so many rows, at least six; with each six of them the pieces double at least."""
+    pairs = [(1, 2), (2, 3), (3, 1), (2, 1), (3, 2), (1, 3)]
+    rows = [("book", ROUND.index(tuple(sorted((-one, other))))) for one, other in pairs]
+    latest = {pair: number for number, pair in enumerate(pairs)}
+    while len(rows) < many:
+        one, other = pairs[len(rows) % 6]
+        between = 6 - one - other
+        rows.append(("cut", latest[one, between], latest[between, other], between))
+        latest[one, other] = len(rows) - 1
+    return rows
+
+
+def some_round_ladder(chance, many):
+    """A ladder by ROUND with so many rows by chance, whose cuts are made of late rows: its tree is soon too great."""
+    rows = [("book", number) for number in range(len(ROUND))]
+    claims = list(ROUND)
+    while len(rows) < many:
+        # Late rows alone might not meet at any thing.
+        one, other = (len(rows) - chance.randint(1, chance.choice((12, len(rows)))) for part in range(2))
+        for k in range(1, 5):
+            claim = cut_plainly(claims[one], claims[other], k)
+            if claim is not None:
+                rows.append(("cut", one, other, k))
+                claims.append(claim)
+                break
+    return rows
+
+
+def some_trees(chance, book, many):
+    """Trees by the book by chance, its claims and up to so many cuts, the later ones the greater."""
+    trees = [("book", number) for number in range(len(book))]
+    claims, pieces = list(book), [1] * len(book)
+    for turn in range(many * 10):
+        if len(trees) == many + len(book):
+            break
+        # The later of two by chance: else hardly any great tree would be met with.
+        one, other = (max(chance.randrange(len(trees)) for pick in range(2)) for part in range(2))
+        things = [say for say in claims[one] if -say in claims[other] and say > 0]
+        claim = cut_plainly(claims[one], claims[other], things[0]) if things else None
+        if claim is not None and 1 + pieces[one] + pieces[other] <= 360:
+            tree = ("cut", trees[one], trees[other], things[0])
+            if within_plainly(tree) <= 40:
+                trees.append(tree)
+                claims.append(claim)
+                pieces.append(1 + pieces[one] + pieces[other])
+    return trees

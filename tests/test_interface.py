@@ -14,6 +14,12 @@ FUNCTIONS = {
     },
     "standing": {"stands_on": "book ladder", "needed": "book ladder", "trimmed": "book ladder"},
     "once": {"told_once": "book ladder"},
+    "instead": {"put_instead": "book ladder old other"},
+    "bare": {"is_bare": "book ladder", "made_bare": "book ladder"},
+    "trees": {
+        "is_tree": "book thing", "claim_of_tree": "book tree", "how_many_pieces": "tree", "cuts_of_tree": "tree",
+    },
+    "backing": {"pieces_of": "book ladder", "tree_of": "book ladder", "rows_of": "tree"},
 }
 
 

@@ -2,6 +2,8 @@
 
 import unittest
 
+from sparecut.backing import pieces_of, tree_of
+from sparecut.bare import is_bare, made_bare
 from sparecut.errors import NoLadder
 from sparecut.ladders import claims_of, heights, how_many_cuts, is_ladder
 from sparecut.once import told_once
@@ -13,7 +15,9 @@ from tests.helper import (
 
 # Behind a row of the claim (1, 2) and one of the claim (-2, 3) none of these is a row.
 ODD_ROWS = [thing for thing in odd_things() if thing != ("book", 0)]
-ALL_OF_A_LADDER = [claims_of, heights, how_many_cuts, stands_on, needed, trimmed, told_once]
+ALL_OF_A_LADDER = [
+    claims_of, heights, how_many_cuts, stands_on, needed, trimmed, told_once, is_bare, made_bare, pieces_of, tree_of,
+]
 
 
 class BeingALadder(unittest.TestCase):

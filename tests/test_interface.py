@@ -20,6 +20,11 @@ FUNCTIONS = {
         "is_tree": "book thing", "claim_of_tree": "book tree", "how_many_pieces": "tree", "cuts_of_tree": "tree",
     },
     "backing": {"pieces_of": "book ladder", "tree_of": "book ladder", "rows_of": "tree"},
+    "regular": {"is_regular": "tree", "made_regular": "book tree"},
+    "late": {"is_put_off": "book ladder first", "put_off": "book ladder"},
+    "force": {
+        "forced": "claims says", "shows_fall": "claims says steps number", "shows_stand": "claims says steps",
+    },
 }
 
 

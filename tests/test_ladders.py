@@ -6,6 +6,7 @@ from sparecut.backing import pieces_of, tree_of
 from sparecut.bare import is_bare, made_bare
 from sparecut.errors import NoLadder
 from sparecut.ladders import claims_of, heights, how_many_cuts, is_ladder
+from sparecut.late import put_off
 from sparecut.once import told_once
 from sparecut.standing import needed, stands_on, trimmed
 from tests.helper import (
@@ -17,6 +18,7 @@ from tests.helper import (
 ODD_ROWS = [thing for thing in odd_things() if thing != ("book", 0)]
 ALL_OF_A_LADDER = [
     claims_of, heights, how_many_cuts, stands_on, needed, trimmed, told_once, is_bare, made_bare, pieces_of, tree_of,
+    put_off,
 ]
 
 

@@ -19,3 +19,10 @@ def lacking_row(claims, row):
     if -row[3] not in claims[row[2]]:
         return row[2]
     return None
+
+
+def cut_off(place, other, say):
+    """The row that cuts the say off the row at this place, by the row other that has its opposite."""
+    if say > 0:
+        return ("cut", place, other, say)
+    return ("cut", other, place, -say)

@@ -1,6 +1,6 @@
 """Cuts by single says put off to the end of a ladder, and done once each."""
 
-from sparecut.anew import lacking_row, put_row
+from sparecut.anew import cut_off, lacking_row, put_row
 from sparecut.claims import is_whole
 from sparecut.ladders import claims_of
 from sparecut.standing import moved_row, trimmed_to
@@ -80,13 +80,6 @@ def put_without_singles(book, rows, claims, singles, row):
     return place
 
 
-def single_cut(place, single, say):
-    """The row that cuts the say off the row at this place, by the row single that tells its opposite alone."""
-    if say > 0:
-        return ("cut", place, single, say)
-    return ("cut", single, place, -say)
-
-
 def put_off(book, ladder):
     """(ladder, first): one put off from first on whose last claim is as wide, with no more rows and no more cuts."""
     elder_claims = claims_of(book, ladder)
@@ -97,6 +90,6 @@ def put_off(book, ladder):
     # For each of these says a cut at least was left out, so that they bring no more cuts than there were.
     late_says = [say for say in claims[place] if say not in elder_claims[-1]]
     for say in late_says:
-        place = put_row(book, rows, claims, single_cut(place, singles[-say], say))
+        place = put_row(book, rows, claims, cut_off(place, singles[-say], say))
     told = trimmed_to(rows, place)
     return told, len(told) - len(late_says)

@@ -31,10 +31,22 @@ def setting_by_number(number):
     return tuple([(number >> place) & 1 == 1 for place in range(MOST_THINGS)])
 
 
+def every_setting():
+    """All settings, one by one."""
+    for number in range(1 << MOST_THINGS):
+        yield setting_by_number(number)
+
+
+def is_setting(thing):
+    """Whether anything at all is a setting: a tuple of eight truths."""
+    if not isinstance(thing, tuple):
+        return False
+    return len(thing) == MOST_THINGS and all(isinstance(truth, bool) for truth in thing)
+
+
 def follows(book, claim):
     """("follows",), or ("not", setting) with one in which the book holds and the claim doesn't."""
-    for number in range(1 << MOST_THINGS):
-        setting = setting_by_number(number)
+    for setting in every_setting():
         if not holds(claim, setting) and all_hold(book, setting):
             return ("not", setting)
     return ("follows",)

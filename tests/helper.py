@@ -66,6 +66,14 @@ def some_book(chance, things=8, most=8, claims=None):
     return tuple(some_claim(chance, things, most) for turn in range(many))
 
 
+def every_claim(things):
+    """All claims of these things."""
+    return [
+        tuple(sorted(thing * way for thing, way in enumerate(ways, 1) if way))
+        for ways in itertools.product((-1, 0, 1), repeat=things)
+    ]
+
+
 def chances(many):
     """As many sources of chance, the same ones at each run."""
     return [random.Random(f"sparecut {number}") for number in range(many)]

@@ -25,6 +25,14 @@ FUNCTIONS = {
     "force": {
         "forced": "claims says", "shows_fall": "claims says steps number", "shows_stand": "claims says steps",
     },
+    "tellings": {"wrong_at": "book telling", "made_whole": "book telling", "spared": "book telling"},
+    "cores": {"core": "book claim", "shows_core": "book claim numbers settings"},
+    "fewest": {
+        "fewest": "book claim", "shows_needed": "book claim many table", "floor_of": "book claim",
+    },
+    "least": {
+        "least_cuts": "book", "least_heights": "book", "least_tree": "book claim", "to_spare": "book tree",
+    },
 }
 
 

@@ -446,3 +446,82 @@ def some_trees(chance, book, many):
                 claims.append(claim)
                 pieces.append(1 + pieces[one] + pieces[other])
     return trees
+
+
+# All claims of four things with four says.
+FULL_FOUR = tuple(claim for claim in every_claim(4) if len(claim) == 4)
+# Some of the claims that trees by it tell need many cuts, one above the other, though () is in it.
+ROUNDABOUT = ((-2, -1, 3), (-4, -3, 1, 2), (-2, 4), (-2,), (-4, -3, -2), (2,), ())
+# Books that speak of other things than 1 to 4, most of them in one claim alone.
+FAR_BOOKS = (
+    ((1, 2), (-1, 5)), ((8,),), ((1,), (-8,)), ((1, 2, 3, 4), (-5, 1)), ((),) * 15 + ((1, 2, 3, 8),), ((9,), (1,)),
+)
+
+
+@functools.cache
+def cuts_plainly():
+    """All (one, other, what comes) of claims of four things."""
+    claims = every_claim(4)
+    cuts = [
+        (one, other, cut_plainly(one, other, k)) for one, other in itertools.product(claims, repeat=2)
+        for k in range(1, 5)
+    ]
+    return [cut for cut in cuts if cut[2] is not None]
+
+
+def least_plainly(book, together):
+    """From each claim that a tree tells to the least number: all pairs tried till none gets less."""
+    found = {claim: 0 for claim in book}
+    changed = True
+    while changed:
+        changed = False
+        for one, other, claim in cuts_plainly():
+            if one in found and other in found:
+                number = together(found[one], found[other])
+                if claim not in found or number < found[claim]:
+                    found[claim] = number
+                    changed = True
+    return found
+
+
+@functools.cache
+def least_cuts_plainly(book):
+    return least_plainly(book, lambda one, other: one + other + 1)
+
+
+@functools.cache
+def least_heights_plainly(book):
+    return least_plainly(book, lambda one, other: 1 + max(one, other))
+
+
+def cuts_of_plainly(tree):
+    return sum(1 for piece in pieces_plainly(tree) if piece[0] == "cut")
+
+
+@functools.cache
+def some_few_books():
+    """Books by chance of one to four things, of one claim to sixteen."""
+    books = []
+    for number, chance in enumerate(chances(90)):
+        things, most = (1, 2, 3, 4, 4, 4)[number % 6], (1, 2, 3, 4)[number % 4]
+        book = some_book(chance, things, most, (1, 2, 4, 8, 16)[number % 5])
+        if number % 6 > 3:
+            book = tuple(some_wide_claim(chance, 4, 1) for turn in range(chance.randint(3, 16)))
+        books.append(book)
+    return tuple(books) + (ROUND, CHAIN_BOOK, FULL_FOUR, ROUNDABOUT, ((),), ((),) * 16, ((1,),), ((1,), (-1,)))
+
+
+@functools.cache
+def some_few_trees():
+    """Pairs of a book of few things and a tree by it."""
+    told = []
+    for number, book in enumerate(some_few_books()[::2]):
+        chance = chances(200)[number]
+        for tree in some_trees(chance, book, 12)[-8:]:
+            told.append((book, tree))
+    for within in (1, 2, 3, 9, 40):
+        told.append((CHAIN_BOOK, chain_tree(within)))
+    for cuts in (0, 1, 2, 5, 40, 179):
+        told.append((ROUND, round_tree(cuts)))
+    told.append((ROUND, deep_round_tree(179, 40)))
+    return tuple(told)

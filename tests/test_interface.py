@@ -33,6 +33,11 @@ FUNCTIONS = {
     "least": {
         "least_cuts": "book", "least_heights": "book", "least_tree": "book claim", "to_spare": "book tree",
     },
+    "bearing": {"bears_cuts": "book thing", "bears_heights": "book thing"},
+    "chains": {"is_chain": "book ladder thing", "shortened": "book ladder"},
+    "texts": {
+        "show_book": "book", "show_ladder": "ladder", "show_claim": "claim", "read_book": "text", "read_ladder": "text",
+    },
 }
 
 
@@ -43,6 +48,11 @@ class Interface(unittest.TestCase):
             for name, arguments in functions.items():
                 told = inspect.signature(getattr(found, name)).parameters
                 self.assertEqual(list(told), arguments.split(), f"{module}.{name}")
+
+    def test_the_desk_and_its_method(self):
+        desk = importlib.import_module("sparecut.desk").Desk
+        self.assertEqual(list(inspect.signature(desk).parameters), [])
+        self.assertEqual(list(inspect.signature(vars(desk)["say"]).parameters), ["self", "row"])
 
 
 if __name__ == "__main__":

@@ -1,7 +1,5 @@
 """Points 22 and 23: the fewest cuts and the least heights of trees by books of few things, and what can be spared."""
 
-import functools
-import itertools
 import unittest
 from unittest import mock
 
@@ -10,67 +8,10 @@ from sparecut.errors import TooGreat, TooMany
 from sparecut.least import least_cuts, least_heights, least_tree, to_spare
 from sparecut.trees import is_tree
 from tests.helper import (
-    CHAIN_BOOK, ROUND, asked_twice, chain_tree, chances, cut_plainly, deep_round_tree, every_claim, pieces_plainly,
-    round_tree, some_book, some_trees, some_wide_claim, tree_claim_plainly, wide_plainly, within_plainly,
+    CHAIN_BOOK, FAR_BOOKS, FULL_FOUR, ROUND, ROUNDABOUT, asked_twice, chain_tree, cuts_of_plainly, every_claim,
+    least_cuts_plainly, least_heights_plainly, pieces_plainly, round_tree, some_few_books, some_few_trees,
+    tree_claim_plainly, wide_plainly, within_plainly,
 )
-
-FULL = tuple(claim for claim in every_claim(4) if len(claim) == 4)
-# Some of the claims that trees by it tell need many cuts, one above the other, though () is in it.
-ROUNDABOUT = ((-2, -1, 3), (-4, -3, 1, 2), (-2, 4), (-2,), (-4, -3, -2), (2,), ())
-FAR = (((1, 2), (-1, 5)), ((8,),), ((1,), (-8,)), ((1, 2, 3, 4), (-5, 1)), ((),) * 15 + ((1, 2, 3, 8),), ((9,), (1,)))
-
-
-@functools.cache
-def cuts_plainly():
-    """All (one, other, what comes) of claims of four things."""
-    claims = every_claim(4)
-    cuts = [
-        (one, other, cut_plainly(one, other, k)) for one, other in itertools.product(claims, repeat=2)
-        for k in range(1, 5)
-    ]
-    return [cut for cut in cuts if cut[2] is not None]
-
-
-def least_plainly(book, together):
-    """From each claim that a tree tells to the least number: all pairs tried till none gets less."""
-    found = {claim: 0 for claim in book}
-    changed = True
-    while changed:
-        changed = False
-        for one, other, claim in cuts_plainly():
-            if one in found and other in found:
-                number = together(found[one], found[other])
-                if claim not in found or number < found[claim]:
-                    found[claim] = number
-                    changed = True
-    return found
-
-
-@functools.cache
-def least_cuts_plainly(book):
-    return least_plainly(book, lambda one, other: one + other + 1)
-
-
-@functools.cache
-def least_heights_plainly(book):
-    return least_plainly(book, lambda one, other: 1 + max(one, other))
-
-
-def cuts_of_plainly(tree):
-    return sum(1 for piece in pieces_plainly(tree) if piece[0] == "cut")
-
-
-@functools.cache
-def some_few_books():
-    """Books by chance of one to four things, of one claim to sixteen."""
-    books = []
-    for number, chance in enumerate(chances(90)):
-        things, most = (1, 2, 3, 4, 4, 4)[number % 6], (1, 2, 3, 4)[number % 4]
-        book = some_book(chance, things, most, (1, 2, 4, 8, 16)[number % 5])
-        if number % 6 > 3:
-            book = tuple(some_wide_claim(chance, 4, 1) for turn in range(chance.randint(3, 16)))
-        books.append(book)
-    return tuple(books) + (ROUND, CHAIN_BOOK, FULL, ROUNDABOUT, ((),), ((),) * 16, ((1,),), ((1,), (-1,)))
 
 
 class Numbers(unittest.TestCase):
@@ -102,7 +43,7 @@ class Numbers(unittest.TestCase):
         self.assertEqual((cuts[(2,)], heights[(2,)]), (0, 0))
 
     def test_all_claims_of_four_says(self):
-        cuts, heights = self.told(FULL)
+        cuts, heights = self.told(FULL_FOUR)
         self.assertEqual(len(cuts), 81)
         self.assertEqual((cuts[()], heights[()]), (15, 4))
         for claim in cuts:
@@ -129,7 +70,7 @@ class Numbers(unittest.TestCase):
             self.assertLessEqual(least_heights(book)[claim], within_plainly(tree) - 1)
 
     def test_other_things_are_too_many(self):
-        for book in FAR:
+        for book in FAR_BOOKS:
             for ask in (least_cuts, least_heights):
                 with self.assertRaises(TooMany):
                     ask(book)
@@ -174,45 +115,29 @@ class Trees(unittest.TestCase):
         self.assertGreater(greatest, 15)
 
     def test_other_things_are_too_many(self):
-        for book in FAR:
+        for book in FAR_BOOKS:
             for claim in book[:2] + ((), (1,), (2, 5)):
                 with self.assertRaises(TooMany):
                     least_tree(book, claim)
 
     def test_what_is_beyond_a_tree_is_refused(self):
         # No book is known whose least trees are that great: so the limits are set lower.
-        pieces, within = len(pieces_plainly(self.told(FULL, ()))), within_plainly(self.told(FULL, ()))
+        pieces, within = len(pieces_plainly(self.told(FULL_FOUR, ()))), within_plainly(self.told(FULL_FOUR, ()))
         self.assertEqual((pieces, within), (31, 5))
         with mock.patch("sparecut.least.MOST_PIECES", 31), mock.patch("sparecut.least.MOST_WITHIN", 5):
-            self.told(FULL, ())
+            self.told(FULL_FOUR, ())
         for name, limit in (("MOST_PIECES", 30), ("MOST_WITHIN", 4)):
             with mock.patch(f"sparecut.least.{name}", limit):
                 with self.assertRaises(TooGreat):
-                    least_tree(FULL, ())
+                    least_tree(FULL_FOUR, ())
                 # What is less than that, and what isn't told, is told of as ever.
-                self.told(FULL, (1,))
-                self.assertIsNone(least_tree(FULL, (5,)))
+                self.told(FULL_FOUR, (1,))
+                self.assertIsNone(least_tree(FULL_FOUR, (5,)))
                 with self.assertRaises(TooMany):
-                    least_tree(FULL[:15] + ((5,),), ())
+                    least_tree(FULL_FOUR[:15] + ((5,),), ())
 
     def test_the_limits_are_those_of_trees(self):
         self.assertEqual((least.MOST_PIECES, least.MOST_WITHIN), (360, 40))
-
-
-@functools.cache
-def some_few_trees():
-    """Pairs of a book of few things and a tree by it."""
-    told = []
-    for number, book in enumerate(some_few_books()[::2]):
-        chance = chances(200)[number]
-        for tree in some_trees(chance, book, 12)[-8:]:
-            told.append((book, tree))
-    for within in (1, 2, 3, 9, 40):
-        told.append((CHAIN_BOOK, chain_tree(within)))
-    for cuts in (0, 1, 2, 5, 40, 179):
-        told.append((ROUND, round_tree(cuts)))
-    told.append((ROUND, deep_round_tree(179, 40)))
-    return tuple(told)
 
 
 class Sparing(unittest.TestCase):
@@ -255,7 +180,7 @@ class Sparing(unittest.TestCase):
             self.assertGreater(seen[many], 10)
 
     def test_other_things_are_too_many(self):
-        for book in FAR:
+        for book in FAR_BOOKS:
             with self.assertRaises(TooMany):
                 to_spare(book, ("book", 0))
         with self.assertRaises(TooMany):
